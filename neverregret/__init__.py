@@ -1,0 +1,1 @@
+"""Neverregret: a desk that serves at once, and what it never regrets."""
