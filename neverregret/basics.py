@@ -76,6 +76,11 @@ def numbered_anew(length, left_out):
     return {old: new for new, old in enumerate(kept)}
 
 
+def changed_at(numbers, at, by):
+    """Return a tuple of numbers in which one is changed by a number."""
+    return numbers[:at] + (numbers[at] + by,) + numbers[at + 1:]
+
+
 def first_false(flags):
     """Return the index of the first item of a list that is False, or `None`."""
     return flags.index(False) if False in flags else None

@@ -7,21 +7,82 @@ import unittest
 README = pathlib.Path(__file__).resolve().parent.parent / "README.md"
 
 CHAPTERS = {
+    "1": """
+    >>> from neverregret.reader import read_table
+    >>> from neverregret.court import court
+    >>> court(read_table("small: s\\nlarge: l\\nany: s l")).__class__.__name__
+    'Crossing'
+    >>> court(read_table("large: l\\nany: s l")).__class__.__name__
+    'Forest'
+    """,
     "3": """
     >>> from neverregret.remade import pieces
+    >>> from neverregret.stocks import bounds_after, unit_taken
     >>> from neverregret.tables import Table, joined_kinds, kinds_of_types, takers
     >>> table = Table(("barn", "cabin", "yurt"), (("dry", (0, 1)), ("tall", (0, 1)), ("warm", (2,))))
-    >>> takers(table, 1), kinds_of_types(table, (0, 2))
-    ((0, 1), (0, 1, 2))
+    >>> takers(table, 1), kinds_of_types(table, (0, 2)), unit_taken((2, 0, 5), 2), bounds_after((3, None, 0), 0)
+    ((0, 1), (0, 1, 2), (2, 0, 4), (2, None, 0))
     >>> joined_kinds(table)[1], pieces(table)
     ((0, 0, 1), (((0, 1), (0, 1)), ((2,), (2,))))
     """,
     "4": """
+    >>> from neverregret.reader import read_bounds, read_log, read_row, read_stock, read_table
+    >>> table = read_table("dry: barn yurt\\n\\nany: yurt cabin barn\\n: loft")
+    >>> table.kinds, table.types
+    (('barn', 'cabin', 'loft', 'yurt'), (('any', (0, 1, 3)), ('dry', (0, 3))))
+    >>> read_stock(table, "yurt 2, barn 11"), read_bounds(table, "dry 0")
+    ((11, 0, 0, 2), (None, 0))
+    >>> read_row(table, "dry 3 any dry"), read_log(table, "any cabin, dry -")
+    ((1, 0, 0, 0, 1), ((0, 1), (1, None)))
     >>> from neverregret.printer import show_log, show_row, show_table
-    >>> from neverregret.tables import Table
-    >>> table = Table(('barn', 'cabin', 'loft', 'yurt'), (('any', (0, 1, 3)), ('dry', (0, 3))))
     >>> show_table(table), show_row(table, (1, 0, 0, 0, 1)), show_log(table, (0, 1), (1, None))
     ('any: barn cabin yurt\\ndry: barn yurt\\n: loft', 'dry 3 any dry', 'any cabin, dry -')
+    """,
+    "5": """
+    >>> from neverregret.plain import kept_places, most_served, regrets
+    >>> from neverregret.tables import Table
+    >>> table = Table(("l", "s"), (("any", (0, 1)), ("large", (0,)), ("small", (1,))))
+    >>> most_served(table, (1, 1), (0, 1, 2)), kept_places(table, (1, 1), (0, 1, 2))
+    (2, (0, 1))
+    >>> regrets(table, (1, 1), (0, 1, 2), (0, None, 1))
+    (1,)
+    """,
+    "6": """
+    >>> from neverregret.court import court, crossing_pairs
+    >>> from neverregret.forests import upward_kinds
+    >>> from neverregret.reader import read_table
+    >>> table = read_table("bike: lane road\\ncart: road\\nskate: lane park road")
+    >>> forest = court(table)
+    >>> forest.places, forest.above, forest.homes, upward_kinds(forest, 2)
+    (((0,), (1,), (2,)), (2, 0, -1), (0, 2, 1), (1, 0, 2))
+    >>> crossing_pairs(read_table("both: a b\\nleft: a\\nright: b"))
+    ((0, 1),)
+    >>> court(read_table("both: a b\\nleft: a\\nright: b")).types
+    (0, 1, 2)
+    """,
+    "7": """
+    >>> from neverregret.reader import read_table
+    >>> table = read_table("bike: lane road\\ncart: road\\nskate: lane park road")
+    >>> from neverregret.leastkinds import least_kinds, wrong_row
+    >>> least_kinds(table, (1, 1, 2), 2), wrong_row(table, (1, 1, 2), 2, 1), wrong_row(table, (1, 0, 2), 0, 2) is None
+    ((1,), None, False)
+    """,
+    "9": """
+    >>> from neverregret.court import court
+    >>> from neverregret.reader import read_table
+    >>> from neverregret.upward import overflows, refused_count, room_for
+    >>> forest = court(read_table("bike: lane road\\ncart: road\\nskate: lane park road"))
+    >>> overflows(forest, (1, 0, 2), (2, 0, 2)), refused_count(forest, (1, 0, 2), (2, 0, 2))
+    ((3, 2, 1), 1)
+    >>> room_for(forest, (1, 4, 2), (2, 0, 2), 1)
+    1
+    """,
+    "10": """
+    >>> from neverregret.gaps import worst_gap
+    >>> from neverregret.tables import Table
+    >>> table = Table(("attic", "cellar"), (("any", (0, 1)), ("dark", (1,)), ("light", (0,))))
+    >>> worst_gap(table, (2, 1), (3, 1, 1), (2,))
+    (0,)
     """,
     "16": """
     >>> from neverregret.disk import Disk, cut_cells
