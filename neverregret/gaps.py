@@ -45,9 +45,7 @@ def is_gap(table, stock, bounds, types, value):
     """Return whether any value is a gap."""
     if not is_lot_below(value, len(stock)) or not value:
         return False
-    known = kinds_of_types(table, types)
-    if any([kind not in known for kind in value]):
-        return False
-    # With no other units in stock, the worst gap is the least part of the lot with the greatest lack.
+    # With no other units in stock, the worst gap is the least part of the lot with the greatest lack. It has
+    # accepted kinds alone.
     alone = tuple([units if kind in value else 0 for kind, units in enumerate(stock)])
     return worst_gap(table, alone, bounds, types) == value

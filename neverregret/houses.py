@@ -1,10 +1,10 @@
 """Houses: the units left, the bounds of what can still come, and guests; and deeds done in them."""
 
-from neverregret.basics import MOST_REQUESTS, changed_at, is_number_below, is_tuple_of
+from neverregret.basics import changed_at, is_number_below, is_tuple_of
 from neverregret.stocks import bounds_after
 from neverregret.tables import accepted, bounds_fault, stock_fault
 
-MOST_GUESTS = MOST_REQUESTS
+MOST_GUESTS = 400
 
 
 class House:

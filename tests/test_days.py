@@ -57,6 +57,9 @@ class ServingTest(unittest.TestCase):
                         (1, 0, None, None, None, 0), (0, 0, None, None, None, None), (1, 0, None, None, 1, None)):
             self.assertFalse(is_day_serving(TABLE, (1, 1), DAY, serving), serving)
         self.assertFalse(is_day_serving(TABLE, (0, 0), DAY, (1, 0, None, None, None, None)))
+        # kinds that the types do not accept
+        self.assertFalse(is_day_serving(TABLE, (9, 9), DAY, (None, 1, None, None, None, None)))
+        self.assertFalse(is_day_serving(TABLE, (9, 9), DAY, (None, None, None, 0, None, None)))
 
     def test_units_come_back(self):
         day = (("comes", 1), ("leaves", 0), ("comes", 1), ("comes", 1))

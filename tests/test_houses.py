@@ -147,7 +147,7 @@ class DeedTest(unittest.TestCase):
 
     def test_other_values(self):
         for value in odd_values() + ((), ("serve",), ("serve", 0, 0), ("serve", 0, 0, (), ()), ["refuse", 0],
-                                     ("refuse", 0, 0), ("leave",), ("move", (), ()), ("stay", 0), ("Refuse", 0),
+                                     ("refuse", 0, 0), ("leave",), ("move", (), ()), ("stay", 0), ("stay", (None, None, None)), ("Refuse", 0),
                                      (0, "refuse"), (Unfriendly(), 0), ("bounds", [None, None, None])):
             self.assertFalse(is_deed(TABLE, HOUSE, value))
         for item in SINGLES:

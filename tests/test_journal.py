@@ -125,6 +125,43 @@ class JournalTest(unittest.TestCase):
         journal.write((2,))
         self.assertEqual(((1,), (2,)), Journal(disk).records())
 
+    def test_disks_that_are_just_full(self):
+        """Whatever has room is kept, up to the last cell and not over it."""
+        for size in range(1, 60):
+            for length in range(30):
+                record = (9,) * length
+                disk = Disk((0,) * size)
+                journal = Journal(disk)
+                if error_of(journal.write, record) is None:
+                    self.assertEqual((record,), Journal(disk).records())
+                    for news in ((record,), (), (record,)):
+                        journal.renew(news)
+                        self.assertEqual(news, journal.records())
+                        self.assertEqual(news, Journal(Disk(cells_now(disk))).records())
+                    journal.renew(())
+                    journal.write(record)
+                    self.assertEqual((record,), Journal(Disk(cells_now(disk))).records())
+                    self.assertGreater(size, 2 * length)
+                else:
+                    self.assertGreater(weight((record,)), room_promised(size))
+                    self.assertEqual(("Refused", "room"), error_of(journal.renew, (record,)))
+
+    def test_every_full_disk_keeps_all(self):
+        for size in range(8, 40):
+            disk = Disk((0,) * size)
+            journal = Journal(disk)
+            kept = ()
+            for turn in range(3):
+                # the longest records that have room, one after another
+                for length in range(size, -1, -1):
+                    if error_of(journal.write, (turn,) * length) is None:
+                        kept += ((turn,) * length,)
+                self.assertEqual(kept, Journal(Disk(cells_now(disk))).records())
+                journal.renew(kept)
+                self.assertEqual(kept, Journal(Disk(cells_now(disk))).records())
+                journal.renew(())
+                kept = ()
+
     def test_long_records(self):
         disk = Disk((0,) * 20000)
         journal = Journal(disk)

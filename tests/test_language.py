@@ -170,6 +170,7 @@ class LanguageTest(unittest.TestCase):
                 if isinstance(node, ast.Assign):
                     self.assertEqual(1, len(node.targets))
                     self.assertIsInstance(node.targets[0], ast.Name)
+                    ast.literal_eval(node.value)
                 elif isinstance(node, ast.Expr):
                     self.assertIs(node, tree.body[0])
                 else:

@@ -121,6 +121,9 @@ class SmallTest(unittest.TestCase):
             for function, extra in ((lefts_of, ()), (most_served, ()), (servable, ()), (kept_places, ()),
                                     (serving_without, ()), (regrets, ((0,) * len(row),))):
                 self.assertEqual(("Refused", "size"), error_of(function, TABLE, stock, row, *extra))
+        # 3 * 59 * 113 is 20,001
+        self.assertEqual(("Refused", "size"), error_of(lefts_of, TABLE, (58, 112), (0, 0)))
+        self.assertIsNone(error_of(lefts_of, TABLE, (58, 112), (0,)))
         self.assertEqual(0, most_served(Table(("a",), (("t", ()),)), (48,), (0,) * 400))
         self.assertEqual(48, most_served(ONE, (48,), (0,) * 400))
         self.assertEqual(("Refused", "size"), error_of(most_served, ONE, (49,), (0,) * 400))

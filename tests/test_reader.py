@@ -169,6 +169,18 @@ class RefusedTest(unittest.TestCase):
         self.assertEqual(("InvalidText", 0, 1), error_of(read_table, "t\n: a"))
         self.assertEqual(("InvalidText", 0, 5), error_of(read_table, "t: a,b".replace("a,", "ab,")))
 
+    def test_completed_with_one_name(self):
+        self.assertEqual(EMPTY, read_table(completed_table(":")))
+        for text in ("t: a\n:", "t: a\n: ", "t: a\nu", "t: a\nu :", "t", "t:", "", "\n", "t: a\n"):
+            self.assertEqual(("a",), read_table(completed_table(text)).kinds, text)
+        one = Table(("a",), (("t", (0,)),))
+        self.assertEqual((0, 0), read_row(one, completed_row(one, "t 1")))
+        self.assertEqual((0,) * 400, read_row(one, completed_row(one, "t 399")))
+        self.assertEqual((0, 0), read_log(one, completed_log(one, "t a,"))[0])
+        self.assertEqual((0, 0), read_log(one, completed_log(one, "t a, t"))[0])
+        self.assertEqual((("a",), (0,)), (one.kinds, read_stock(one, completed_stock(one, "a"))))
+        self.assertEqual(("InvalidText", 0, 3), error_of(completed_stock, one, "a 3,"))
+
     def test_one_line(self):
         for function, text in ((read_stock, "a 1"), (read_bounds, "t 1"), (read_row, "t"), (read_log, "t a"),
                                (read_row, ""), (read_stock, ""), (read_bounds, ""), (read_log, "")):

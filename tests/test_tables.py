@@ -55,6 +55,9 @@ class TableTest(unittest.TestCase):
                 with self.assertRaises(InvalidTable) as caught:
                     Table(("a", "b"), (("c", ()), ("d", (1,)), item) + behind)
                 self.assertEqual(2, caught.exception.at)
+        for names in ("ba", "aa", "zy"):
+            types = tuple((name, ()) for name in names)
+            self.assertEqual(("InvalidTable", 1), error_of(Table, ("a", "b"), types))
         for item in wrong[:-5]:
             self.assertEqual(("InvalidTable", 0), error_of(Table, ("a", "b"), (item, 5)))
 
