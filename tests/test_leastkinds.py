@@ -6,7 +6,9 @@ import unittest
 from helpers import SINGLES, all_servings, error_of, random_tables, regrets_by_trying
 from neverregret.court import is_forest
 from neverregret.leastkinds import least_kinds, wrong_row
+from neverregret.plain import most_served, regrets, sorted_rows
 from neverregret.reader import read_table
+from neverregret.stocks import unit_taken
 from neverregret.tables import Table, accepted, takers
 
 ROADS = read_table("bike: lane road\ncart: road\nskate: lane park road")
@@ -60,6 +62,35 @@ class LeastTest(unittest.TestCase):
                             if serving[0] == kind:
                                 self.assertTrue(regrets_by_trying(table, stock, whole, serving))
         self.assertGreater(wrong, 50)
+
+    def test_least_kinds_are_never_worse(self):
+        """Whatever comes behind, no other offered kind leaves more that can be served."""
+        rng = random.Random(72)
+        compared = 0
+        for table in random_tables(80, 73, 3, 3):
+            stock = tuple(rng.randint(0, 2) for _ in table.kinds)
+            rows = sorted_rows(table, (None,) * len(table.types), sum(stock))
+            for request in range(len(table.types)):
+                for one in least_kinds(table, stock, request):
+                    for other in accepted(table, request):
+                        if stock[other] > 0 and other != one:
+                            compared += 1
+                            self.assertTrue(all(most_served(table, unit_taken(stock, one), row)
+                                                >= most_served(table, unit_taken(stock, other), row) for row in rows))
+        self.assertGreater(compared, 20)
+
+    def test_a_rule_with_least_kinds_never_regrets(self):
+        """In forests, whoever hands out some least kind each time has no regret, whatever comes."""
+        rng = random.Random(74)
+        for table in [table for table in random_tables(120, 75, 3, 4) if is_forest(table) and table.types]:
+            left = stock = tuple(rng.randint(0, 2) for _ in table.kinds)
+            row = tuple(rng.randrange(len(table.types)) for _ in range(6))
+            serving = ()
+            for request in row:
+                least = least_kinds(table, left, request)
+                serving += (rng.choice(least) if least else None,)
+                left = unit_taken(left, serving[-1]) if least else left
+            self.assertEqual((), regrets(table, stock, row, serving))
 
 
 if __name__ == "__main__":
