@@ -44,6 +44,11 @@ def are_numbers_below(value, limit):
     return isinstance(value, tuple) and all([is_number_below(item, limit) for item in value])
 
 
+def are_numbers(value, length):
+    """Return whether any value is a tuple of so many numbers."""
+    return is_tuple_of(value, length) and all([is_number(item) for item in value])
+
+
 def is_lot_below(value, limit):
     """Return whether any value is a lot of numbers below a limit."""
     return are_numbers_below(value, limit) and is_ascending(value)
@@ -68,6 +73,14 @@ def counts_of(items, length):
         if item is not None:
             counts[item] += 1
     return tuple(counts)
+
+
+def all_lots(many):
+    """Return all lots of numbers below a number, ascending."""
+    lots = [()]
+    for number in range(many):
+        lots = lots + [lot + (number,) for lot in lots]
+    return tuple(sorted(lots))
 
 
 def numbered_anew(length, left_out):

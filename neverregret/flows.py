@@ -5,6 +5,7 @@ many units of each kind are left. Both change. A way is a list of pairs `(reques
 pair gets a unit of its kind, which the type of the next pair gives up; of the last kind a unit is left.
 """
 
+from neverregret.stocks import units_in
 from neverregret.tables import accepted
 
 
@@ -63,3 +64,28 @@ def take_most(table, taken, left, request, many):
         go_way(taken, left, way, step)
         got += step
     return got
+
+
+def most_taken(table, stock, bounds, types):
+    """Return what the types have, and what is left, if types of a lot alone take as many units as can be."""
+    taken = nothing_taken(table)
+    left = list(stock)
+    # a type that finds no way finds none later either, so that one turn for each is enough
+    for request in types:
+        most = units_in(stock, accepted(table, request))
+        if bounds[request] is not None:
+            most = min(most, bounds[request])
+        take_most(table, taken, left, request, most)
+    return taken, left
+
+
+def missable_kinds(table, taken, left):
+    """Return a dict with the kinds of which a unit can be missed: one is left, or its type can go another way."""
+    missable = {kind: True for kind, units in enumerate(left) if units > 0}
+    many = -1
+    while many < len(missable):
+        many = len(missable)
+        for request, units in enumerate(taken):
+            if any([kind in missable for kind in accepted(table, request)]):
+                missable.update({kind: True for kind, number in enumerate(units) if number > 0})
+    return missable

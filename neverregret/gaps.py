@@ -11,6 +11,12 @@ def takers_among(table, types, kinds):
     return tuple([request for request in types if any([kind in accepted(table, request) for kind in kinds])])
 
 
+def types_outside(table, types, kinds):
+    """Return the lot of those of the types that accept none of the kinds."""
+    takers_of_some = takers_among(table, types, kinds)
+    return tuple([request for request in types if request not in takers_of_some])
+
+
 def lack_of(table, stock, bounds, types, kinds):
     """Return the lack of a lot of accepted kinds, `None` if one of its takers has no bound."""
     limits = [bounds[request] for request in takers_among(table, types, kinds)]
@@ -27,7 +33,11 @@ def greatest_lack(table, stock, bounds, types):
 
 def worst_gap(table, stock, bounds, types):
     """Return the lot that has the greatest lack and no lesser part that has it."""
-    taking = greatest_taking(table, stock, bounds, types)
+    return gap_of_taking(table, stock, types, greatest_taking(table, stock, bounds, types))
+
+
+def gap_of_taking(table, stock, types, taking):
+    """Return the worst gap of types, told by some greatest taking by them."""
     taken = units_by_kind(table, taking)
     kinds = tuple([kind for kind in kinds_of_types(table, types) if taken[kind] < stock[kind]])
     # What takes units of the lot takes all that it can: whatever else it takes would be left over as well if it

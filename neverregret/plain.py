@@ -30,9 +30,14 @@ def left_stock(stock, serving):
     return tuple([units - handed for units, handed in zip(stock, given)])
 
 
-def check_small(stock, row):
-    """Raise `Refused("size")` unless the stock with the requests of the row is small."""
-    trials = len(row) + 1
+def is_refused_place(serving, value):
+    """Return whether any value is a place that a serving refuses."""
+    return is_number_below(value, len(serving)) and serving[value] is None
+
+
+def check_small(stock, many):
+    """Raise `Refused("size")` unless the stock with so many requests is small."""
+    trials = many + 1
     for units in stock:
         trials *= units + 1
     if trials > MOST_TRIALS:
@@ -54,7 +59,7 @@ def stocks_behind(table, stocks, request):
 
 def lefts_of(table, stock, row):
     """Return the ascending tuple of all stocks that servings of a row leave."""
-    check_small(stock, row)
+    check_small(stock, len(row))
     lefts = {stock: True}
     for request in row:
         behind = stocks_behind(table, lefts, request)
@@ -104,7 +109,7 @@ def servable(table, stock, row):
 
 def regrets(table, stock, row, serving):
     """Return the lot of the places of a serving that are regrets."""
-    check_small(stock, row)
+    check_small(stock, len(row))
     stocks = {stock: True}
     found = []
     for place, request in enumerate(row):
@@ -118,7 +123,7 @@ def regrets(table, stock, row, serving):
 
 def steps_without(table, stock, row):
     """Return for each place what `stocks_behind` returns if all is served that can be, or `None`."""
-    check_small(stock, row)
+    check_small(stock, len(row))
     stocks = {stock: True}
     steps = []
     for request in row:

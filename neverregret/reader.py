@@ -2,7 +2,7 @@
 
 from neverregret.errors import InvalidText
 from neverregret.lexer import marks_of
-from neverregret.tables import Table, kind_names, type_names
+from neverregret.tables import kind_names, table_by_names, type_names
 from neverregret.textsteps import LogSteps, PairSteps, RowSteps, TableSteps
 
 
@@ -39,11 +39,7 @@ def read_table(text):
     """Return the table that a text tells."""
     steps = TableSteps()
     take_text(steps, text)
-    kinds = tuple(sorted(steps.kinds))
-    types = []
-    for name in sorted(steps.lots):
-        types.append((name, tuple(sorted([kinds.index(kind) for kind in steps.lots[name]]))))
-    return Table(kinds, tuple(types))
+    return table_by_names(steps.kinds, steps.lots)
 
 
 def read_stock(table, text):

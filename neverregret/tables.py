@@ -29,6 +29,15 @@ def is_type_pair(value, many_kinds):
     return is_tuple_of(value, 2) and is_name(value[0]) and is_lot_below(value[1], many_kinds)
 
 
+def table_by_names(kinds, lots):
+    """Return the table of names of kinds, in any sequence, and a dict with the names that each type accepts."""
+    sorted_kinds = tuple(sorted(kinds))
+    types = []
+    for name in sorted(lots):
+        types.append((name, tuple(sorted([sorted_kinds.index(kind) for kind in lots[name]]))))
+    return Table(sorted_kinds, tuple(types))
+
+
 def kind_names(table):
     """Return the names of all kinds."""
     return table.kinds
@@ -116,11 +125,16 @@ def check_bounds(table, value):
         raise InvalidBounds(fault)
 
 
+def row_fault(table, value):
+    """Return `None` if any value is a row for a table, otherwise -1 or the index of the first wrong item."""
+    if not isinstance(value, tuple) or len(value) > MOST_REQUESTS:
+        return -1
+    return first_false([is_number_below(item, len(table.types)) for item in value])
+
+
 def check_row(table, value):
     """Raise `InvalidRow` unless any value is a row for a table."""
-    if not isinstance(value, tuple) or len(value) > MOST_REQUESTS:
-        raise InvalidRow(-1)
-    fault = first_false([is_number_below(item, len(table.types)) for item in value])
+    fault = row_fault(table, value)
     if fault is not None:
         raise InvalidRow(fault)
 

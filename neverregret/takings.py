@@ -1,8 +1,7 @@
 """Takings: how many units of each kind go to requests of each type."""
 
-from neverregret.basics import is_number, is_tuple_of
-from neverregret.flows import nothing_taken, take_most
-from neverregret.stocks import units_in
+from neverregret.basics import are_numbers, is_tuple_of
+from neverregret.flows import most_taken
 from neverregret.tables import accepted
 
 
@@ -11,7 +10,7 @@ def is_taking(table, stock, bounds, value):
     if not is_tuple_of(value, len(table.types)):
         return False
     for request, units in enumerate(value):
-        if not is_tuple_of(units, len(table.kinds)) or not all([is_number(number) for number in units]):
+        if not are_numbers(units, len(table.kinds)):
             return False
         if any([number > 0 and kind not in accepted(table, request) for kind, number in enumerate(units)]):
             return False
@@ -33,14 +32,7 @@ def taken_units(taking):
 
 def greatest_taking(table, stock, bounds, types):
     """Return some taking by types of a lot alone that takes as many units as any."""
-    taken = nothing_taken(table)
-    left = list(stock)
-    # a type that finds no way finds none later either, so that one turn for each is enough
-    for request in types:
-        most = units_in(stock, accepted(table, request))
-        if bounds[request] is not None:
-            most = min(most, bounds[request])
-        take_most(table, taken, left, request, most)
+    taken, _ = most_taken(table, stock, bounds, types)
     return tuple([tuple(units) for units in taken])
 
 

@@ -10,11 +10,13 @@ from neverregret.lexer import DIGITS
 MOST_DIGITS = 3
 
 
-def numeral_worth(mark, most):
-    """Return the number of a numeral up to a number of at most three digits, -1 for any other mark."""
-    if mark[0] not in DIGITS or len(mark) > MOST_DIGITS or (mark[0] == "0" and mark != "0"):
+def numeral_worth(word, most):
+    """Return the number of a numeral up to a number of at most three digits, -1 for any other word."""
+    if len(word) > MOST_DIGITS or not all([sign in DIGITS for sign in word]):
         return -1
-    return int(mark) if int(mark) <= most else -1
+    if word[0] == "0" and word != "0":
+        return -1
+    return int(word) if int(word) <= most else -1
 
 
 class TableSteps:

@@ -2,6 +2,7 @@
 
 import ast
 import builtins
+import collections
 import pathlib
 import re
 import unittest
@@ -147,14 +148,16 @@ class LanguageTest(unittest.TestCase):
                 del uses[name]
 
     def test_names_are_used(self):
-        texts = [path.read_text() for path in FILES + sorted(PACKAGE.parent.glob("tests/*.py"))]
+        words = collections.Counter()
+        for path in FILES + sorted(PACKAGE.parent.glob("tests/*.py")):
+            words.update(re.findall(r"\w+", path.read_text()))
         for path, tree in TREES.items():
             read = {node.id for node in ast.walk(tree) if isinstance(node, ast.Name)}
             for name, node in module_names(tree).items():
                 if isinstance(node, ast.ImportFrom):
                     self.assertIn(name, read, path)
                 else:
-                    self.assertGreater(sum(len(re.findall(rf"\b{name}\b", text)) for text in texts), 1, name)
+                    self.assertGreater(words[name], 1, name)
             for function in functions(tree):
                 reads = {node.id for node in ast.walk(function)
                          if isinstance(node, ast.Name) and isinstance(node.ctx, (ast.Load, ast.Del))}
@@ -247,11 +250,12 @@ class LanguageTest(unittest.TestCase):
 
     def test_calls(self):
         known = own(ast.FunctionDef) | own(ast.ClassDef)
+        methods = METHODS | own_methods()
         for where, node in self.nodes():
             if not isinstance(node, ast.Call):
                 continue
             if isinstance(node.func, ast.Attribute):
-                self.assertIn(node.func.attr, METHODS | own_methods(), where)
+                self.assertIn(node.func.attr, methods, where)
                 self.assertEqual([], node.keywords, where)
             else:
                 self.assertIsInstance(node.func, ast.Name, where)
