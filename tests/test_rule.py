@@ -115,6 +115,11 @@ class EveryOrderTest(unittest.TestCase):
             self.assertEqual(("Refused", "size"), error_of(row_orders, wrong))
             self.assertEqual(("Refused", "size"), error_of(served_in_orders, CROSSED, (1, 1), wrong))
         self.assertEqual(1001, len(row_orders((0,) * 4 + (1,) * 10)))
+        # just 2,000 and 2,001 sequences come about with rows that are longer than rows that are passed
+        self.assertEqual(2000, len(row_orders((1,) + (0,) * 1999)))
+        self.assertEqual((1,), served_in_orders(CROSSED, (0, 1), (1,) * 1999 + (2,)))
+        self.assertEqual(("Refused", "size"), error_of(row_orders, (1,) + (0,) * 2000))
+        self.assertEqual(("Refused", "size"), error_of(served_in_orders, CROSSED, (0, 1), (1,) * 2000 + (2,)))
 
     def test_served_by_trying(self):
         rng = random.Random(320)
