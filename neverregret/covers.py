@@ -25,6 +25,18 @@ def units_of_types(table, stock, row):
     return most_taken(table, stock, counts, tuple(range(len(counts))))
 
 
+def dealt_serving(table, stock, row):
+    """Return some greatest serving in which the first requests of each type get what the type can have."""
+    taken, _ = units_of_types(table, stock, row)
+    waiting = []
+    for units in taken:
+        waiting.append([kind for kind, number in enumerate(units) for _ in range(number)])
+    serving = []
+    for request in row:
+        serving.append(waiting[request].pop() if waiting[request] else None)
+    return tuple(serving)
+
+
 def least_cover_with(table, stock, row, types):
     """Return the cover with all types of a lot that is part of each such cover, `None` if there is none."""
     taken, left = units_of_types(table, stock, row)

@@ -65,7 +65,12 @@ def remakes_in_turn(table, stock, row, serving, places, costs):
 def cheapest_way(table, stock, row, serving, remake, costs, place):
     """Return some way from a place that costs least, `None` if there is none."""
     steps = cheapest_steps(table, row, serving, remake, costs)
-    ways = {kind: (0, ((place, kind),)) for kind in accepted(table, row[place])}
+    return way_by_steps(steps, left_stock(stock, remake), place, accepted(table, row[place]))
+
+
+def way_by_steps(steps, left, place, kinds):
+    """Return some way that costs least from a place that gets one of some kinds, `None` if there is none."""
+    ways = {kind: (0, ((place, kind),)) for kind in kinds}
     changed = True
     # some steps cost less than nothing, as they bring a place back to its old kind, but no circle of steps does
     while changed:
@@ -74,7 +79,6 @@ def cheapest_way(table, stock, row, serving, remake, costs, place):
             if kind in ways and (further not in ways or ways[kind][0] + cost < ways[further][0]):
                 ways[further] = (ways[kind][0] + cost, ways[kind][1] + ((mover, further),))
                 changed = True
-    left = left_stock(stock, remake)
     ended = [ways[kind] for kind in ways if left[kind] > 0]
     return min(ended, key=lambda way: way[0])[1] if ended else None
 

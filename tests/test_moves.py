@@ -1,55 +1,18 @@
 """[68] Remakes, and of [69] when there is one, and the steps to it."""
 
 import itertools
-import random
 import unittest
 
-from helpers import SINGLES, Unfriendly, all_servings, odd_values, random_tables, subsets
+from helpers import SINGLES, Unfriendly, all_servings, odd_values, subsets
 from neverregret.moves import cheapest_remake, is_remake, moved_places, remake_cost, remake_costs
 from neverregret.movesteps import move_order, steps_between
 from neverregret.plain import is_serving, left_stock
-from neverregret.tables import Table, kinds_of_types
+from neverregret.tables import Table
+from remakes import all_remakes, cases, dear_cases, does_lot_block
 
 TABLE = Table(("l", "s"), (("any", (0, 1)), ("large", (0,)), ("small", (1,))))
 CASE = (TABLE, (1, 1), (0, 1), (0, None))
 CHAIN = Table(tuple("abcdefgh"), tuple(zip("pqrstuvw", ((at,) if at == 7 else (at, at + 1) for at in range(8)))))
-
-
-def all_remakes(table, stock, row, serving, places, costs):
-    """Return all remakes with their costs, by trying all servings."""
-    found = []
-    for value in all_servings(table, stock, row):
-        same = [(kind is not None) == (serving[at] is not None or at in places) for at, kind in enumerate(value)]
-        kept = [kind == serving[at] for at, kind in enumerate(value) if serving[at] is not None and costs[at] is None]
-        if all(same + kept):
-            found.append((sum(costs[at] for at, kind in enumerate(value)
-                              if serving[at] is not None and kind != serving[at]), value))
-    return found
-
-
-def does_lot_block(table, stock, row, serving, places, costs, types):
-    """Return whether a lot of types blocks, word by word."""
-    kinds = kinds_of_types(table, types)
-    staying = [at for at, kind in enumerate(serving) if kind is not None and costs[at] is None]
-    wanted = [at for at in range(len(row)) if (serving[at] is not None or at in places) and at not in staying]
-    units = sum(stock[kind] for kind in kinds) - sum(serving[at] in kinds for at in staying)
-    return sum(row[at] in types for at in wanted) > units
-
-
-def cases(many, seed, costs=(None, 0, 1, 1, 2, 5)):
-    """Return small tables with a stock, a row, a serving, places and costs each."""
-    rng = random.Random(seed)
-    found = []
-    while len(found) < many:
-        table = random_tables(1, rng.random(), 4, 4)[0]
-        if table.types:
-            stock = tuple(rng.choice((0, 1, 1, 2)) for _ in table.kinds)
-            row = tuple(rng.randrange(len(table.types)) for _ in range(rng.randint(0, 5)))
-            serving = rng.choice(all_servings(table, stock, row))
-            refused = [at for at, kind in enumerate(serving) if kind is None]
-            places = tuple(at for at in refused if rng.random() < 0.8)
-            found.append((table, stock, row, serving, places, tuple(rng.choice(costs) for _ in row)))
-    return found
 
 
 class RemakeTest(unittest.TestCase):
@@ -91,7 +54,7 @@ class RemakeTest(unittest.TestCase):
 
     def test_by_trying(self):
         there = lacking = 0
-        for case in cases(260, 680):
+        for case in cases(200, 680) + dear_cases(150, 683):
             table, stock, row, serving, places, costs = case
             remakes = all_remakes(*case)
             for value in all_servings(table, stock, row):
@@ -114,6 +77,25 @@ class RemakeTest(unittest.TestCase):
                 least.append(min(part)[0])
             self.assertEqual(tuple(least), remake_costs(*case))
         self.assertGreater(min(there, lacking), 50)
+
+    def test_who_moves_for_one_place_may_move_on_for_the_next_one(self):
+        """A place that was moved for the first of the places costs nothing more, or goes back for the second one."""
+        for lots, stock, row, serving, places, costs, least in (
+                (((0, 1, 3), (0, 1, 3), (2,), (1, 2, 3), (0, 1)), (2, 1, 2, 2), (4, 0, 3, 2, 4, 2),
+                 (0, 0, 2, None, None, 2), (3, 4), (2, 3, 2, 5, 2, 8), 2),
+                (((2, 3), (0, 1, 2, 3), (1, 3), (0, 3), (3,)), (1, 1, 1, 2), (0, 1, 3, 1, 0), (None, 3, None, 2, 3),
+                 (0, 2), (3, 8, 8, 5, 2), 5),
+                (((0, 1, 3), (0, 2), (0, 1, 2), (0, 2), (1, 2)), (1, 1, 1, 2), (2, 0, 0, 3, 4), (2, 3, 0, None, None),
+                 (3, 4), (8, 8, 8, 8, 1), 8),
+                (((0, 1), (1, 3), (1,), (2, 3), (0, 1, 2, 3)), (1, 2, 1, 1), (0, 1, 2, 0), (1, 1, None, None), (2, 3),
+                 (1, 3, 8, 3), 3)):
+            table = Table(("a", "b", "c", "d"), tuple(zip("pqrst", lots)))
+            case = (table, stock, row, serving, places, costs)
+            remake = cheapest_remake(*case)
+            self.assertTrue(is_remake(*case, remake))
+            self.assertEqual(least, remake_cost(serving, costs, remake))
+            self.assertEqual(least, min(all_remakes(*case))[0])
+            self.assertEqual(least, remake_costs(*case)[-1])
 
     def test_places_of_one_type(self):
         many = 0
