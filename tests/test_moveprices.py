@@ -6,11 +6,12 @@ import unittest
 
 from helpers import SINGLES, Bag, Unfriendly, odd_values, random_table
 from neverregret.covers import ServingPaper
+from neverregret.games import served_by_orders
 from neverregret.moveprices import RemakePaper, is_remake_paper, prices_worth, remake_paper, unit_prices
 from neverregret.moves import cheapest_remake, is_remake, remake_cost
 from neverregret.plain import left_stock
 from neverregret.servings import grown_serving
-from neverregret.tables import Table, accepted
+from neverregret.tables import Table, accepted, takers
 from remakes import all_remakes, cases, dear_cases
 
 TABLE = Table(("l", "s"), (("any", (0, 1)), ("large", (0,)), ("small", (1,))))
@@ -208,7 +209,9 @@ class PaperTest(unittest.TestCase):
                 continue
             stock = tuple(rng.choice((0, 20, 50, 100)) for _ in table.kinds)
             row = tuple(rng.randrange(len(table.types)) for _ in range(400))
-            serving = grown_serving(table, stock, row[:250], (None,) * 250) + (None,) * 150
+            # the kinds with most takers go first, so that later ones have to make room
+            orders = [sorted(lot, key=lambda kind: -len(takers(table, kind))) for _, lot in table.types]
+            serving = served_by_orders(table, stock, row[:250], orders) + (None,) * 150
             full = grown_serving(table, stock, row, serving)
             places = tuple(place for place in range(250, 400) if full[place] is not None)
             costs = tuple(rng.choice((0, 1, 3, 8)) for _ in row)
